@@ -177,7 +177,8 @@ func TestMemory(t *testing.T) {
 	all := whole()
 	l, d := all[:2], of(2, 1, 1)
 	results := [][]api.Desc{desc.Copy(l), desc.Drop(l, 1), desc.Drop(l, 5), desc.Older(l)}
-	for _, x := range []api.Desc{d, of(1, 2, 0), of(1, 0, 0), of(4, 1, 1)} {
+	newer := of(1, 2, 0)
+	for _, x := range []api.Desc{d, newer, of(1, 0, 0), of(4, 1, 1)} {
 		got, _ := desc.Put(l, x, 9, 3)
 		full, _ := desc.Put(l, x, 9, 2)
 		results = append(results, got, full)
@@ -190,7 +191,7 @@ func TestMemory(t *testing.T) {
 			_ = append(got[i].Filter, api.Span{From: 1})
 		}
 		_ = append(got, of(98, 9, 9))
-		if !same(all, whole()) || !equal(d, of(2, 1, 1)) {
+		if !same(all, whole()) || !equal(d, of(2, 1, 1)) || !equal(newer, of(1, 2, 0)) {
 			t.Fatal("shared", all, d)
 		}
 	}

@@ -249,6 +249,17 @@ func TestRight(t *testing.T) {
 	if !mesg.Right(empty) || !mesg.Same(empty, api.Message{Kind: api.KindLeave, Inc: 1}) {
 		t.Error("an empty list is none")
 	}
+	pull := api.Message{Kind: api.KindPull, Inc: 1, IDs: make([]api.ID, 255)}
+	for i := range pull.IDs {
+		pull.IDs[i] = api.ID{Inc: 1, Seq: 1}
+	}
+	if !mesg.Right(pull) {
+		t.Error("255 ids")
+	}
+	pull.IDs = append(pull.IDs, pull.IDs[0])
+	if b, err := mesg.Bytes(pull); mesg.Right(pull) || err != api.ErrMesg || len(b) != 0 {
+		t.Error("256 ids")
+	}
 	if mesg.Right(api.Message{}) || mesg.Right(api.Message{Kind: api.KindPush, Inc: 1}) {
 		t.Error("without an event")
 	}

@@ -190,7 +190,7 @@ func TestSame(t *testing.T) {
 }
 
 func random(r *rand.Rand, s api.Service) api.Deed {
-	d := api.Deed{What: uint8(1 + r.Intn(5)), Node: uint8(r.Intn(len(s.Lives) + 1)), Filter: span(int32(r.Intn(6)), int32(r.Intn(10))), ID: id(uint8(r.Intn(3)), uint16(r.Intn(3)), uint32(r.Intn(4)))}
+	d := api.Deed{What: uint8(1 + r.Intn(6)), Node: uint8(r.Intn(len(s.Lives) + 1)), Filter: span(int32(r.Intn(6)), int32(r.Intn(10))), ID: id(uint8(r.Intn(3)), uint16(r.Intn(3)), uint32(r.Intn(4)))}
 	d.Event = api.Event{ID: d.ID, Vals: []int32{int32(r.Intn(11))}, Data: []byte{byte(r.Intn(256))}}
 	if len(s.Events) > 0 && r.Intn(3) > 0 {
 		d.ID = s.Events[r.Intn(len(s.Events))].ID

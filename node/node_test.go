@@ -203,6 +203,11 @@ func TestDigest(t *testing.T) {
 	if r, l, _ := node.Take(c, q, m, nil); len(l) != 0 || !same(r, q) {
 		t.Error("again", l)
 	}
+	low := c
+	low.Last = 2
+	if _, l, _ := node.Take(low, p, m, nil); len(l) != 2 || !slices.Equal(l[0].IDs, []api.ID{id(0, 1, 1), id(4, 1, 1)}) {
+		t.Error("above Last", l)
+	}
 	m.Hops = 0
 	if _, l, _ := node.Take(c, p, m, nil); len(l) != 1 || l[0].Kind != api.KindPull {
 		t.Error("no hops left", l)
@@ -231,7 +236,7 @@ func newCluster(r *rand.Rand) *cluster {
 	k.c.Swap = 1 + r.Intn(k.c.View)
 	k.c.Near, k.c.Fanout, k.c.Hops = r.Intn(3), r.Intn(3), r.Intn(4)
 	k.c.Window, k.c.Buffer, k.c.Pulls = 1+r.Intn(6), 1+r.Intn(4), 1+r.Intn(3)
-	k.c.Last = uint32(3 + r.Intn(20))
+	k.c.Last = uint32(2 + r.Intn(15))
 	for node := range k.c.Nodes {
 		p, _ := peer.Start(k.c, peer.New(k.c, uint8(node)))
 		k.peers = append(k.peers, p)
@@ -305,7 +310,7 @@ func (k *cluster) step(t *testing.T, forge bool) {
 	default:
 		var m api.Message
 		switch {
-		case len(k.pool) > 0 && (!forge || k.r.Intn(5) > 0):
+		case len(k.pool) > 0 && (!forge || k.r.Intn(3) > 0):
 			at := k.r.Intn(len(k.pool))
 			m = k.pool[at]
 			if k.r.Intn(6) > 0 {
@@ -436,6 +441,10 @@ func TestMemory(t *testing.T) {
 			q, ok, d := node.Accept(k.c, p, m.Event)
 			add(q, ok, d)
 			q, s, l := node.Take(k.c, p, m, draws)
+			add(q, s, l)
+			other := m
+			other.To++
+			q, s, l = node.Take(k.c, p, other, draws)
 			add(q, s, l)
 			q, s = node.Tick(k.c, p, draws)
 			add(q, s)

@@ -62,9 +62,11 @@ func TestRight(t *testing.T) {
 		}
 	}
 	c := config(5)
-	c.Last, c.Swap = math.MaxUint32, 3
-	if !peer.Right(c) {
-		t.Error("at the edges")
+	for _, last := range []uint32{1, 2, math.MaxUint32} {
+		c.Last, c.Swap = last, 3
+		if !peer.Right(c) {
+			t.Error("at the edges", last)
+		}
 	}
 }
 

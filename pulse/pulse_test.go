@@ -100,6 +100,7 @@ func TestHeardLeft(t *testing.T) {
 		{of(3, left, 7), 3, of(3, left, 7), of(3, left, 7)},
 		{of(3, left, 7), 4, of(4, alive, 0), of(4, left, 0)},
 		{of(3, left, 7), 2, of(3, left, 7), of(3, left, 7)},
+		{of(1, suspect, 7), 1, of(1, alive, 0), of(1, left, 7)},
 		{of(65535, alive, 255), 65535, of(65535, alive, 0), of(65535, left, 255)},
 	} {
 		l := []api.Member{of(9, alive, 9), c.m, of(9, left, 9)}

@@ -196,11 +196,15 @@ func TestMemory(t *testing.T) {
 	}
 	dropped, older := ring.Drop(both(a, b), 9), ring.Older(both(a, b))
 	out := append(ring.List(both(a, b)), chosen.Succ, chosen.Pred, dropped.Succ, dropped.Pred, older.Succ, older.Pred)
-	for _, d := range append(out, ring.List(both(a, a))...) {
+	later := of(1, 4, 0, 3)
+	for _, r := range []api.Ring{both(a, a), both(b, a), both(a, later), both(later, a), {HasSucc: true, Succ: a}, {HasPred: true, Pred: a}} {
+		out = append(out, ring.List(r)...)
+	}
+	for _, d := range out {
 		d.Filter[0].From = 99
 	}
-	if !equal(a, of(1, 3, 4, 0)) || !equal(b, of(2, 1, 7, 5)) || !equal(c, of(3, 1, 1, 9)) {
-		t.Error("shared", a, b, c)
+	if !equal(a, of(1, 3, 4, 0)) || !equal(b, of(2, 1, 7, 5)) || !equal(c, of(3, 1, 1, 9)) || !equal(later, of(1, 4, 0, 3)) {
+		t.Error("shared", a, b, c, later)
 	}
 }
 

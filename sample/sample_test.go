@@ -99,6 +99,7 @@ func TestAdmit(t *testing.T) {
 		{l, of(1, 3, 0), 2, []api.Desc{of(1, 3, 0), l[1]}},
 		{l, of(1, 2, 4), 2, []api.Desc{of(1, 2, 4), l[1]}},
 		{l, of(1, 2, 5), 2, l}, {l, of(2, 1, 0), 2, l}, {l, of(7, 0, 0), 2, l}, {l, of(9, 1, 0), 2, l}, {l, of(9, 1, 0), 5, l},
+		{[]api.Desc{of(1, 2, 1), of(2, 2, 5)}, of(1, 2, 3), 2, []api.Desc{of(1, 2, 1), of(2, 2, 5)}}, {[]api.Desc{of(1, 2, 1), of(2, 2, 5)}, of(1, 1, 0), 2, []api.Desc{of(1, 2, 1), of(2, 2, 5)}},
 		{nil, of(7, 1, 0), 0, nil}, {nil, of(7, 1, 0), 1, []api.Desc{of(7, 1, 0)}},
 		{[]api.Desc{of(1, 1, 3), of(2, 1, 3)}, of(0, 1, 9), 2, []api.Desc{of(0, 1, 9), of(2, 1, 3)}},
 	} {

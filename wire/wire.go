@@ -57,7 +57,7 @@ func Unsigned(x int32) uint64 {
 
 // Signed undoes Unsigned, for the lowest 32 bits of x.
 func Signed(x uint64) int32 {
-	return int32(int64(x&(1<<32-1)) - 1<<31)
+	return int32(uint32(x) - 1<<31)
 }
 
 // within tells which counts are allowed: those from least to most.

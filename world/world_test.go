@@ -375,13 +375,22 @@ func TestMemory(t *testing.T) {
 	if w.Tape.Nums[0] != 1 || w.Config.Schema[0].To != 9 {
 		t.Error("New keeps what it was given")
 	}
+	for _, s := range []api.Step{step(api.StepStart, 0), step(api.StepStart, 1), join(1, 0), want(0, 0, 9), want(1, 2, 9)} {
+		w, _ = world.Do(w, s)
+	}
 	for range 150 {
 		before := fmt.Sprint(w)
 		var next api.World
-		for range 4 {
+		var nexts []api.World
+		var texts []string
+		for range 6 {
 			s := random(r, w)
+			if r.Intn(2) == 0 {
+				s.Kind, s.Vals[0] = api.StepPublish, int32(r.Intn(10))
+			}
 			asked := fmt.Sprint(s)
 			next, _ = world.Do(w, s)
+			nexts, texts = append(nexts, next), append(texts, fmt.Sprint(next))
 			if fmt.Sprint(s) != asked {
 				t.Fatal("the step changed", s)
 			}
@@ -389,6 +398,11 @@ func TestMemory(t *testing.T) {
 			s.Filter[0].From, s.Vals[0], s.Data[0] = 99, 99, 99
 			if fmt.Sprint(next) != after {
 				t.Fatal("the step is kept", s)
+			}
+		}
+		for i, x := range nexts {
+			if fmt.Sprint(x) != texts[i] {
+				t.Fatal("what becomes of a world changes what else may become of it")
 			}
 		}
 		if fmt.Sprint(w) != before {
