@@ -2,85 +2,46 @@ package mesg
 
 import (
 	"grapevine/api"
-	"grapevine/wire"
+	"grapevine/cursor"
 )
 
-const mostText = 65535 // any text: what is too long for a message is no fault of the bytes
-
-// reader takes numbers from the front of b, till one of them is not there.
-type reader struct {
-	b   []byte
-	bad bool
-}
-
-// number hands over to wire no more than it takes, as that copies the rest.
-func (r *reader) number(n int) uint64 {
-	if r.bad || len(r.b) < n {
-		r.bad = true
-		return 0
-	}
-	x, _, _ := wire.Take(r.b[:n], n)
-	r.b = r.b[n:]
-	return x
-}
-
-func (r *reader) byte() uint8   { return uint8(r.number(1)) }
-func (r *reader) short() uint16 { return uint16(r.number(2)) }
-func (r *reader) long() uint32  { return uint32(r.number(4)) }
-func (r *reader) value() int32  { return wire.Signed(r.number(4)) }
-
-func (r *reader) text() []byte {
-	text, rest, ok := wire.TakeText(r.b, mostText)
-	if r.bad || !ok {
-		r.bad = true
-		return nil
-	}
-	r.b = rest
-	return text
-}
-
-func takeList[T any](r *reader, take func(*reader) T) []T {
+func takeList[T any](r *cursor.Reader, take func(*cursor.Reader) T) []T {
 	var l []T
-	for range r.byte() {
+	for range r.Byte() {
 		l = append(l, take(r))
-		if r.bad {
+		if r.Bad {
 			return nil
 		}
 	}
 	return l
 }
 
-func takeDesc(r *reader) api.Desc {
-	return api.Desc{Node: r.byte(), Inc: r.short(), Age: r.byte(), Filter: takeList(r, takeSpan)}
+func takeDesc(r *cursor.Reader) api.Desc {
+	return api.Desc{Node: r.Byte(), Inc: r.Short(), Age: r.Byte(), Filter: takeList(r, takeSpan)}
 }
 
-func takeSpan(r *reader) api.Span {
-	return api.Span{From: r.value(), To: r.value()}
+func takeSpan(r *cursor.Reader) api.Span {
+	return api.Span{From: r.Value(), To: r.Value()}
 }
 
-func takeMember(r *reader) api.Member {
-	return api.Member{Inc: r.short(), State: r.byte(), Quiet: r.byte()}
+func takeMember(r *cursor.Reader) api.Member {
+	return api.Member{Inc: r.Short(), State: r.Byte(), Quiet: r.Byte()}
 }
 
-func takeEvent(r *reader) api.Event {
-	return api.Event{ID: takeID(r), Vals: takeList(r, (*reader).value), Data: r.text()}
+func takeEvent(r *cursor.Reader) api.Event {
+	return api.Event{ID: takeID(r), Vals: takeList(r, (*cursor.Reader).Value), Data: r.Text()}
 }
 
-func takeID(r *reader) api.ID {
-	return api.ID{Node: r.byte(), Inc: r.short(), Seq: r.long()}
+func takeID(r *cursor.Reader) api.ID {
+	return api.ID{Node: r.Byte(), Inc: r.Short(), Seq: r.Long()}
 }
 
-func takeMark(r *reader) api.Mark {
-	return api.Mark{Node: r.byte(), Inc: r.short(), Seq: r.long()}
-}
-
-// put appends a number; b is never one that was handed in.
-func put(b []byte, x uint64, n int) []byte {
-	return append(b, wire.Put(nil, x, n)...)
+func takeMark(r *cursor.Reader) api.Mark {
+	return api.Mark{Node: r.Byte(), Inc: r.Short(), Seq: r.Long()}
 }
 
 func putList[T any](b []byte, l []T, each func([]byte, T) []byte) []byte {
-	b = put(b, uint64(len(l)), 1)
+	b = cursor.Put(b, uint64(len(l)), 1)
 	for _, x := range l {
 		b = each(b, x)
 	}
@@ -88,29 +49,25 @@ func putList[T any](b []byte, l []T, each func([]byte, T) []byte) []byte {
 }
 
 func putDesc(b []byte, d api.Desc) []byte {
-	b = put(b, uint64(d.Node), 1)
-	b = put(b, uint64(d.Inc), 2)
-	b = put(b, uint64(d.Age), 1)
+	b = cursor.Put(b, uint64(d.Node), 1)
+	b = cursor.Put(b, uint64(d.Inc), 2)
+	b = cursor.Put(b, uint64(d.Age), 1)
 	return putList(b, d.Filter, putSpan)
 }
 
 func putSpan(b []byte, s api.Span) []byte {
-	return putValue(putValue(b, s.From), s.To)
-}
-
-func putValue(b []byte, v int32) []byte {
-	return put(b, wire.Unsigned(v), 4)
+	return cursor.PutValue(cursor.PutValue(b, s.From), s.To)
 }
 
 func putMember(b []byte, m api.Member) []byte {
-	b = put(b, uint64(m.Inc), 2)
-	b = put(b, uint64(m.State), 1)
-	return put(b, uint64(m.Quiet), 1)
+	b = cursor.Put(b, uint64(m.Inc), 2)
+	b = cursor.Put(b, uint64(m.State), 1)
+	return cursor.Put(b, uint64(m.Quiet), 1)
 }
 
 func putEvent(b []byte, e api.Event) []byte {
-	b = putList(putID(b, e.ID), e.Vals, putValue)
-	return append(b, wire.PutText(nil, e.Data)...)
+	b = putList(putID(b, e.ID), e.Vals, cursor.PutValue)
+	return cursor.PutText(b, e.Data)
 }
 
 func putID(b []byte, x api.ID) []byte {
@@ -118,7 +75,7 @@ func putID(b []byte, x api.ID) []byte {
 }
 
 func putMark(b []byte, m api.Mark) []byte {
-	b = put(b, uint64(m.Node), 1)
-	b = put(b, uint64(m.Inc), 2)
-	return put(b, uint64(m.Seq), 4)
+	b = cursor.Put(b, uint64(m.Node), 1)
+	b = cursor.Put(b, uint64(m.Inc), 2)
+	return cursor.Put(b, uint64(m.Seq), 4)
 }

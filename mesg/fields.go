@@ -1,6 +1,9 @@
 package mesg
 
-import "grapevine/api"
+import (
+	"grapevine/api"
+	"grapevine/cursor"
+)
 
 const (
 	mostDescs = 64
@@ -23,7 +26,7 @@ const (
 // field is how one field of a message is written and read, whether it may be as it is, and whether it is zero.
 type field struct {
 	write func([]byte, api.Message) []byte
-	read  func(*reader, *api.Message)
+	read  func(*cursor.Reader, *api.Message)
 	right func(api.Message) bool
 	empty func(api.Message) bool
 }
@@ -51,43 +54,43 @@ func fields() []field {
 	return []field{
 		list: {
 			write: func(b []byte, m api.Message) []byte { return putList(b, m.List, putDesc) },
-			read:  func(r *reader, m *api.Message) { m.List = takeList(r, takeDesc) },
+			read:  func(r *cursor.Reader, m *api.Message) { m.List = takeList(r, takeDesc) },
 			right: func(m api.Message) bool { return allOf(m.List, mostDescs, rightDesc) },
 			empty: func(m api.Message) bool { return len(m.List) == 0 },
 		},
 		table: {
 			write: func(b []byte, m api.Message) []byte { return putList(b, m.Table, putMember) },
-			read:  func(r *reader, m *api.Message) { m.Table = takeList(r, takeMember) },
+			read:  func(r *cursor.Reader, m *api.Message) { m.Table = takeList(r, takeMember) },
 			right: func(m api.Message) bool { return allOf(m.Table, api.MaxNodes, rightMember) },
 			empty: func(m api.Message) bool { return len(m.Table) == 0 },
 		},
 		event: {
 			write: func(b []byte, m api.Message) []byte { return putEvent(b, m.Event) },
-			read:  func(r *reader, m *api.Message) { m.Event = takeEvent(r) },
+			read:  func(r *cursor.Reader, m *api.Message) { m.Event = takeEvent(r) },
 			right: func(m api.Message) bool { return rightEvent(m.Event) },
 			empty: func(m api.Message) bool { return sameEvent(m.Event, api.Event{}) },
 		},
 		hops: {
-			write: func(b []byte, m api.Message) []byte { return put(b, uint64(m.Hops), 1) },
-			read:  func(r *reader, m *api.Message) { m.Hops = r.byte() },
+			write: func(b []byte, m api.Message) []byte { return cursor.Put(b, uint64(m.Hops), 1) },
+			read:  func(r *cursor.Reader, m *api.Message) { m.Hops = r.Byte() },
 			right: func(m api.Message) bool { return true },
 			empty: func(m api.Message) bool { return m.Hops == 0 },
 		},
 		origin: {
 			write: func(b []byte, m api.Message) []byte { return putMark(b, m.Origin) },
-			read:  func(r *reader, m *api.Message) { m.Origin = takeMark(r) },
+			read:  func(r *cursor.Reader, m *api.Message) { m.Origin = takeMark(r) },
 			right: func(m api.Message) bool { return rightMark(m.Origin) },
 			empty: func(m api.Message) bool { return m.Origin == api.Mark{} },
 		},
 		marks: {
 			write: func(b []byte, m api.Message) []byte { return putList(b, m.Marks, putMark) },
-			read:  func(r *reader, m *api.Message) { m.Marks = takeList(r, takeMark) },
+			read:  func(r *cursor.Reader, m *api.Message) { m.Marks = takeList(r, takeMark) },
 			right: func(m api.Message) bool { return allOf(m.Marks, api.MaxNodes, rightMark) },
 			empty: func(m api.Message) bool { return len(m.Marks) == 0 },
 		},
 		ids: {
 			write: func(b []byte, m api.Message) []byte { return putList(b, m.IDs, putID) },
-			read:  func(r *reader, m *api.Message) { m.IDs = takeList(r, takeID) },
+			read:  func(r *cursor.Reader, m *api.Message) { m.IDs = takeList(r, takeID) },
 			right: func(m api.Message) bool { return allOf(m.IDs, mostIDs, rightID) },
 			empty: func(m api.Message) bool { return len(m.IDs) == 0 },
 		},

@@ -14,11 +14,11 @@ import (
 // allowed is what the program may import of the library.
 const allowed = "bytes cmp container/heap errors iter maps math math/bits slices sort strconv strings sync sync/atomic unicode unicode/utf8"
 
-// uses is which layers each layer may call, as the map of the document and its chapters have it; state is the part that peer and node have in common.
+// uses is which layers each layer may call, as the map of the document and its chapters have it; state is what peer and node have in common, cursor what mesg and script have.
 var uses = map[string]string{
 	"wire": "", "crc": "wire", "schema": "", "span": "", "filter": "span", "score": "span filter", "ident": "", "seen": "", "desc": "", "cyclon": "desc", "sample": "desc", "near": "score desc", "ring": "score desc near", "pulse": "", "buffer": "ident", "push": "", "digest": "ident seen", "pull": "ident", "stable": "seen digest",
-	"mesg": "wire crc", "outbox": "", "net": "crc", "tape": "", "peer": "schema filter desc cyclon sample near ring pulse stable state", "node": "schema filter ident seen buffer push digest pull stable pulse peer state", "model": "schema filter", "script": "wire", "world": "mesg outbox net tape peer node", "trace": "model", "fair": "buffer peer node world", "player": "mesg peer model script world trace fair",
-	"state": "schema filter desc pulse stable", "api": "",
+	"mesg": "wire crc cursor", "outbox": "", "net": "crc", "tape": "", "peer": "schema filter desc cyclon sample near ring pulse stable state", "node": "schema filter ident seen buffer push digest pull stable pulse peer state", "model": "schema filter", "script": "wire cursor", "world": "mesg outbox net tape peer node", "trace": "model", "fair": "buffer peer node world", "player": "mesg peer model script world trace fair",
+	"state": "schema filter desc pulse stable", "cursor": "wire", "api": "",
 }
 
 const longest = 60 // lines of a function
