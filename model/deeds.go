@@ -8,14 +8,31 @@ import (
 	"grapevine/schema"
 )
 
-// work is a deed that is being done; what is wrong with it is found before anything of s changes.
+// work is a deed, and what comes of it. Its service shares memory with the one before; of that only the lives are written to, which it has of its own.
 type work struct {
-	s  api.Service
-	d  api.Deed
-	id api.ID
+	s   api.Service
+	d   api.Deed
+	id  api.ID
+	err api.Errno
 }
 
-// effects returns the effect of each deed.
+// done does a deed, if it is possible.
+func done(s api.Service, d api.Deed) *work {
+	w := &work{s: s, d: d}
+	effect, ok := effects()[d.What]
+	switch {
+	case !ok:
+		w.err = api.ErrDeed
+	case int(d.Node) >= len(s.Lives):
+		w.err = api.ErrArg
+	default:
+		w.s.Lives = slices.Clone(s.Lives)
+		w.err = effect(w)
+	}
+	return w
+}
+
+// effects returns the effect of each deed; what is wrong with a deed is found before anything changes.
 func effects() map[uint8]func(*work) api.Errno {
 	return map[uint8]func(*work) api.Errno{
 		api.DeedStart:     (*work).start,
@@ -67,7 +84,7 @@ func (w *work) subscribe() api.Errno {
 
 func (w *work) publish() api.Errno {
 	l := w.life()
-	e := schema.Copy(w.d.Event)
+	e := w.d.Event
 	switch {
 	case !l.Up:
 		return api.ErrDown
@@ -79,7 +96,7 @@ func (w *work) publish() api.Errno {
 	l.Seq++
 	w.id = api.ID{Node: w.d.Node, Inc: l.Inc, Seq: l.Seq}
 	e.ID = w.id
-	w.s.Events = append(w.s.Events, e)
+	w.s.Events = append(slices.Clip(w.s.Events), e)
 	return api.OK
 }
 
@@ -99,6 +116,6 @@ func (w *work) deliver() api.Errno {
 	if slices.Contains(w.s.Given, g) {
 		return api.ErrGiven
 	}
-	w.s.Given = append(w.s.Given, g)
+	w.s.Given = append(slices.Clip(w.s.Given), g)
 	return api.OK
 }

@@ -264,6 +264,23 @@ func TestMemory(t *testing.T) {
 	}
 }
 
+// What lies behind the lists of a service stays, too.
+func TestBehind(t *testing.T) {
+	s := model.New(2, one, 9)
+	for _, d := range []api.Deed{start(0), want(0, 0, 9), publish(0, 1), publish(0, 2), deliver(0, id(0, 1, 1))} {
+		s, _, _ = model.Do(s, d)
+	}
+	events, given := append(make([]api.Event, 0, 9), s.Events...), append(make([]api.Given, 0, 9), s.Given...)
+	s.Events, s.Given = events, given
+	for _, d := range []api.Deed{publish(0, 3), deliver(0, id(0, 1, 2))} {
+		model.Do(s, d)
+		model.May(s, d)
+	}
+	if events[:3][2].ID != (api.ID{}) || given[:2][1] != (api.Given{}) {
+		t.Error("changed", events[:3], given[:2])
+	}
+}
+
 // Services that nobody made bring nothing down.
 func TestAnything(t *testing.T) {
 	for _, s := range []api.Service{{}, {Lives: make([]api.Life, 300), Events: make([]api.Event, 3), Given: make([]api.Given, 3)}, {Lives: []api.Life{{Up: true, Inc: 9, Filter: span(3, 1)}}, Events: []api.Event{{Vals: []int32{2}}}}} {
