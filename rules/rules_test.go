@@ -73,12 +73,12 @@ func own() map[string]any {
 		"node.Publish": node.Publish, "node.Accept": node.Accept, "node.Take": node.Take, "node.Tick": node.Tick,
 		"model.New": model.New, "model.Do": model.Do, "model.May": model.May, "model.Owed": model.Owed, "model.Same": model.Same,
 		"script.Right": script.Right, "script.Same": script.Same, "script.Bytes": script.Bytes, "script.Parse": script.Parse,
-		"trace.Model": trace.Model, "trace.Deeds": trace.Deeds, "player.Read": player.Read, "player.Config": player.Config, "fair.Reach": fair.Reach, "fair.Bound": fair.Bound, "fair.Due": fair.Due, "world.New": world.New,
+		"player.Read": player.Read, "player.Config": player.Config, "fair.Reach": fair.Reach, "fair.Bound": fair.Bound, "fair.Due": fair.Due,
 	}
 }
 
 func sharing() map[string]any {
-	return map[string]any{"trace.Follow": trace.Follow, "world.Do": world.Do, "world.Run": world.Run, "fair.Drain": fair.Drain, "fair.Round": fair.Round}
+	return map[string]any{"trace.Model": trace.Model, "trace.Deeds": trace.Deeds, "trace.Follow": trace.Follow, "world.New": world.New, "world.Do": world.Do, "world.Run": world.Run, "fair.Drain": fair.Drain, "fair.Round": fair.Round}
 }
 
 // small makes most numbers small, so that things meet one another.

@@ -95,7 +95,7 @@ func TestMay(t *testing.T) {
 		want   bool
 	}{
 		{r, id(3, 6), 4, true}, {r, id(3, 7), 4, false}, {r, id(3, 9), 4, true}, {r, id(3, 10), 4, false}, {r, id(3, 5), 4, false}, {r, id(3, 0), 4, false},
-		{r, id(2, 6), 4, false}, {r, id(0, 6), 4, false}, {r, id(4, 4), 4, true}, {r, id(4, 5), 4, false}, {r, id(4, 0), 4, false}, {r, id(4, 1), 1, true}, {r, id(4, 2), 1, false},
+		{r, id(2, 6), 4, false}, {r, id(0, 6), 4, false}, {r, id(4, 4), 4, true}, {r, id(4, 5), 4, false}, {r, id(4, 0), 4, false}, {row(3, 5, 0), id(4, 1), 1, true}, {row(3, 5, 0), id(4, 2), 1, false}, {row(3, 5, 0), id(3, 6), 1, true}, {row(3, 5, 0), id(3, 7), 1, false},
 		{r, id(3, 6), 0, false}, {r, id(3, 6), 65, false}, {r, id(3, 6), -1, false}, {r, id(3, 6), math.MinInt, false}, {r, id(3, 69), 64, true}, {r, id(3, 70), 64, false},
 		{api.Row{}, id(0, 1), 4, false}, {api.Row{}, id(1, 4), 4, true}, {api.Row{}, id(1, 5), 4, false}, {api.Row{}, id(65535, 64), 64, true},
 		{row(1, top-2, 0), id(1, top), 64, true}, {row(1, top-2, 0), id(1, 1), 64, false}, {row(1, top, 0), id(1, top), 64, false}, {row(1, top, 0), id(1, 1), 64, false}, {row(1, top, 0), id(2, 1), 64, true},
