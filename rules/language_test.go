@@ -18,7 +18,7 @@ const packages = "buffer crc cursor cyclon desc digest fair filter ident mesg mo
 
 func TestLanguage(t *testing.T) {
 	files := token.NewFileSet()
-	for name := range splitWords(packages) {
+	for _, name := range strings.Fields(packages) {
 		paths, err := filepath.Glob(filepath.Join("..", name, "*.go"))
 		if err != nil || len(paths) == 0 {
 			t.Fatal(name, err)

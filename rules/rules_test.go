@@ -7,6 +7,7 @@ import (
 	"math/rand"
 	"reflect"
 	"slices"
+	"strings"
 	"testing"
 
 	"grapevine/api"
@@ -281,26 +282,7 @@ func try(t *testing.T, name string, f reflect.Value, args []reflect.Value, maySh
 }
 
 func contains(list, name string) bool {
-	for w := range splitWords(list) {
-		if w == name {
-			return true
-		}
-	}
-	return false
-}
-
-func splitWords(list string) func(func(string) bool) {
-	return func(yield func(string) bool) {
-		from := 0
-		for i := 0; i <= len(list); i++ {
-			if i == len(list) || list[i] == ' ' {
-				if !yield(list[from:i]) {
-					return
-				}
-				from = i + 1
-			}
-		}
-	}
+	return slices.Contains(strings.Fields(list), name)
 }
 
 func TestRules(t *testing.T) {
