@@ -3,7 +3,7 @@ package cursor
 
 import "grapevine/wire"
 
-// Reader takes numbers from the front of B, till one of them is not there: then it is Bad, and all else is zero.
+// Reader takes numbers from the front of B, till one of them is not there: then it is Bad, and what it returns says nothing.
 type Reader struct {
 	B   []byte
 	Bad bool
